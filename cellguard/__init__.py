@@ -1,0 +1,1 @@
+"""Cellguard: a census tabulator with disclosure control."""
