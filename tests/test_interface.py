@@ -1,0 +1,76 @@
+"""The names and arguments of the interface, each defined in the file under which it is listed."""
+
+import importlib
+import inspect
+import unittest
+
+import samples
+from cellguard.network import Network
+from cellguard.publication import publish
+
+FUNCTIONS = {
+    "names": {"is_name": "text"},
+    "plan": {"plan_text": "plan", "read_plan": "text"},
+    "census": {"same_census": "first second", "census_text": "census", "read_census": "text plan"},
+    "counting": {"cells_of": "plan table", "counts_of": "census table", "totals_of": "census",
+                 "counts_fit": "plan table counts totals"},
+    "network": {"is_flow": "network values", "upper_bound": "network arc members", "lower_bound": "network arc members"},
+    "flows": {"find_flow": "network", "closed_set": "network", "extreme_flow": "network arc way",
+              "flow_range": "network arc"},
+    "publication": {"publish": "census patterns", "agrees": "census publication"},
+    "linking": {"network_of": "publication table", "arc_of": "plan table cell", "is_possible": "publication",
+                "census_from": "publication counts"},
+    "ranges": {"cell_range": "publication table cell", "determined_cells": "publication table",
+               "extreme_census": "publication table cell way", "range_papers": "publication table cell"},
+}
+
+CLASSES = {
+    "errors": {
+        "CellguardError": {}, "InvalidText": {"__init__": "line"}, "UnknownName": {"__init__": "name"},
+        "InvalidPlan": {}, "InvalidRecord": {}, "InvalidPattern": {}, "InvalidPublication": {}, "InvalidFlow": {},
+        "Refused": {}, "TooLarge": {},
+    },
+    "areas": {"AreaTree": {"__init__": "areas", "names": "", "parent": "name", "children": "name", "leaves": "",
+                           "leaves_below": "name", "is_leaf": "name", "level": "name"}},
+    "plan": {"Plan": {"__init__": "areas attributes tables", "attributes": "", "tables": "", "classes": "table",
+                      "dimensions": "table", "class_of": "table values"}},
+    "census": {"Census": {"__init__": "plan records", "add": "record number", "number": "record", "records": "",
+                          "people": ""}},
+    "network": {"Network": {"__init__": "nodes arcs", "arcs": ""}},
+    "publication": {"Publication": {"__init__": "plan totals tables", "totals": "", "tables": "", "cells": "table",
+                                    "hidden": "table"}},
+}
+
+
+def arguments(function):
+    return list(inspect.signature(function).parameters)
+
+
+class InterfaceTest(unittest.TestCase):
+    def test_functions(self):
+        for file, functions in FUNCTIONS.items():
+            module = importlib.import_module(f"cellguard.{file}")
+            for name, wanted in functions.items():
+                with self.subTest(f"{file}.{name}"):
+                    function = getattr(module, name)
+                    self.assertTrue(inspect.isfunction(function))
+                    self.assertEqual(function.__module__, f"cellguard.{file}")
+                    self.assertEqual(arguments(function), wanted.split())
+
+    def test_classes(self):
+        for file, classes in CLASSES.items():
+            module = importlib.import_module(f"cellguard.{file}")
+            for name, methods in classes.items():
+                found = getattr(module, name)
+                self.assertTrue(inspect.isclass(found))
+                self.assertEqual(found.__module__, f"cellguard.{file}")
+                for method, wanted in methods.items():
+                    with self.subTest(f"{file}.{name}.{method}"):
+                        self.assertIn(method, vars(found))
+                        self.assertEqual(arguments(vars(found)[method])[1:], wanted.split())
+
+    def test_attributes(self):
+        census = samples.land_census()
+        self.assertEqual(census.plan.areas.root, "land")
+        self.assertIs(publish(census, {}).plan, census.plan)
+        self.assertEqual(Network(3, []).nodes, 3)
