@@ -73,11 +73,16 @@ def is_pattern(cells, pattern):
     return True
 
 
+def check_pattern(cells, pattern):
+    """Raise InvalidPattern if a pattern is not an ascending list of cells, given all cells in order."""
+    if not is_pattern(cells, pattern):
+        raise InvalidPattern("not an ascending list of cells of the table")
+
+
 def published_cells(census, table, pattern):
     """Return the counts of a table, with None for the cells of a pattern."""
     cells = counts_of(census, table)
-    if not is_pattern(list(cells), pattern):
-        raise InvalidPattern(f"not an ascending list of cells of {table}")
+    check_pattern(list(cells), pattern)
     for cell in pattern:
         cells[cell] = None
     return cells

@@ -116,3 +116,71 @@ def is_right(network, arc, paper):
     if shown is None:
         return False
     return shown <= bound if way == 1 else shown >= bound
+
+
+def triple_plan():
+    """A tree of three levels with a table of three classes, and one with a single area."""
+    return Plan([("top", None), ("left", "top"), ("x", "left"), ("y", "left"), ("z", "top")],
+                [("one", ["a", "b", "c"])], [("t", [("one", [["b"], ["c"], ["a"]])])])
+
+
+def flat_plan(leaves, classes):
+    """A root with a number of leaves, and a table with a number of classes."""
+    letters = list("abcdefgh"[:classes])
+    return Plan([("top", None)] + [(f"l{k}", "top") for k in range(leaves)],
+                [("one", letters)], [("t", [("one", [[letter] for letter in letters])])])
+
+
+def census_of_rows(plan, rows):
+    """A census of a plan with one attribute, from a dict from leaves to the numbers of its values."""
+    values = plan.attributes()[0][1]
+    return Census(plan, [((leaf, (value,)), number) for leaf, row in rows.items() for value, number in zip(values, row)])
+
+
+def random_census(plan, generator, choices):
+    """A census of a plan with one attribute, with numbers out of a list."""
+    many = len(plan.attributes()[0][1])
+    return census_of_rows(plan, {leaf: [generator.choice(choices) for _ in range(many)] for leaf in plan.areas.leaves()})
+
+
+def all_tables(plan, table, totals):
+    """All counts of a table that fit the totals, found by trying all rows of the leaves."""
+    size = len(plan.classes(table))
+    leaves = plan.areas.leaves()
+    below = {area: plan.areas.leaves_below(area) for area in plan.areas.names()}
+    found = []
+    for rows in product(*[splits(totals[leaf], size) for leaf in leaves]):
+        at = dict(zip(leaves, rows))
+        found.append({(area, number): sum(at[leaf][number] for leaf in below[area])
+                      for area in plan.areas.names() for number in range(size)})
+    return found
+
+
+def agreeing_tables(tables, counts, pattern):
+    """Those of the tables that have the counts in all cells that are not in the pattern."""
+    shown = [cell for cell in counts if cell not in pattern]
+    return [other for other in tables if all(other[cell] == counts[cell] for cell in shown)]
+
+
+def tried_range(tables, cell):
+    values = [counts[cell] for counts in tables]
+    return min(values), max(values)
+
+
+def tried_exposed(tables, counts, totals, rule, pattern):
+    """The exposed cells of a pattern, by the words of points 28 and 29."""
+    threshold, down, up = rule
+    agreeing = agreeing_tables(tables, counts, pattern)
+    exposed = []
+    for cell, count in counts.items():
+        if 1 <= count < threshold:
+            least, greatest = tried_range(agreeing, cell)
+            if cell not in pattern or least > max(0, count - down) or greatest < min(totals[cell[0]], count + up):
+                exposed.append(cell)
+    return exposed
+
+
+def tried_cost(counts, rule, pattern, sort):
+    """The cost of a pattern, by the words of point 31."""
+    costly = [counts[cell] for cell in pattern if not 1 <= counts[cell] < rule[0]]
+    return len(costly) if sort == "cells" else len(costly) + sum(costly)

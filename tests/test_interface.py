@@ -22,6 +22,15 @@ FUNCTIONS = {
                 "census_from": "publication counts"},
     "ranges": {"cell_range": "publication table cell", "determined_cells": "publication table",
                "extreme_census": "publication table cell way", "range_papers": "publication table cell"},
+    "papers": {"check_paper": "publication table cell paper"},
+    "pricing": {"upper_price": "network weights potentials", "lower_price": "network weights potentials",
+                "best_flow": "network weights way"},
+    "sums": {"sum_range": "publication table weights", "sum_census": "publication table weights way",
+             "sum_papers": "publication table weights", "check_sum_paper": "publication table weights paper"},
+    "rules": {"protected_cells": "census table rule", "wanted_range": "census table rule cell",
+              "exposed_cells": "census table rule pattern", "is_safe": "census table rule pattern",
+              "pattern_cost": "census table rule pattern sort"},
+    "hiding": {"tight_pattern": "census table rule sort=cells", "tightened": "census table rule pattern"},
 }
 
 CLASSES = {
@@ -43,7 +52,13 @@ CLASSES = {
 
 
 def arguments(function):
-    return list(inspect.signature(function).parameters)
+    """The names of the arguments; the ones that are passed by keyword with their defaults."""
+    found = []
+    for name, parameter in inspect.signature(function).parameters.items():
+        if parameter.kind == parameter.KEYWORD_ONLY:
+            name = f"{name}=" if parameter.default is parameter.empty else f"{name}={parameter.default}"
+        found.append(name)
+    return found
 
 
 class InterfaceTest(unittest.TestCase):

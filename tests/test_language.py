@@ -29,6 +29,7 @@ NEVER = {"register", "mro", "elements", "open", "input", "law", "version_info", 
 WORDS = re.compile(r"\b(typing|typing_extensions|enum|Enum|IntEnum|StrEnum|Flag|IntFlag|Generic|Protocol|ABC|ABCMeta|"
                    r"namedtuple|NamedTuple|TypedDict|TYPE_CHECKING|abstractmethod|type|_wall|_WallAttr)\b|dataclass|"
                    r"overload|contextmanager")
+LIBRARY = {"heapq": {"heappop", "heappush"}}
 ITERATED = {"zip", "enumerate", "reversed", "range", "items", "keys", "values"}
 ITERATING = {"list", "tuple", "dict", "sorted", "sum", "any", "all", "enumerate", "zip"}
 
@@ -110,7 +111,9 @@ class LanguageTest(unittest.TestCase):
             for inner in ast.walk(node):
                 self.assertFalse(inner is not node and isinstance(inner, (ast.FunctionDef, ast.ClassDef)), place)
             taken = node.args
-            self.assertFalse(taken.vararg or taken.kwarg or taken.kwonlyargs or taken.posonlyargs or taken.defaults, place)
+            self.assertFalse(taken.vararg or taken.kwarg or taken.posonlyargs or taken.defaults, place)
+            for default in taken.kw_defaults:
+                self.assertTrue(default is None or isinstance(default, ast.Constant), place)
             if node.name.startswith("__"):
                 self.assertEqual(node.name, "__init__", place)
                 self.assertFalse(any(isinstance(inner, ast.Return) for inner in ast.walk(node)), place)
@@ -126,6 +129,9 @@ class LanguageTest(unittest.TestCase):
             for node in ast.walk(tree):
                 if isinstance(node, ast.ImportFrom):
                     self.assertEqual(node.level, 0)
+                    if node.module in LIBRARY:
+                        self.assertLessEqual({alias.name for alias in node.names}, LIBRARY[node.module])
+                        continue
                     package, file = node.module.split(".")
                     self.assertEqual(package, "cellguard")
                     graph[name].add(file)
@@ -178,10 +184,18 @@ class LanguageTest(unittest.TestCase):
 
     def test_calls(self):
         own = {node.name for _, node in self.nodes(ast.FunctionDef, ast.ClassDef)}
+        library = set().union(*LIBRARY.values())
         for place, node in self.nodes(ast.Call):
             self.assertFalse(any(isinstance(part, ast.Starred) for part in node.args), place)
-            self.assertEqual(node.keywords, [], place)
-            self.assertIn(called(node), own | METHODS | BUILTINS, place)
+            self.assertTrue(node.keywords == [] or called(node) in own - METHODS, place)
+            self.assertIn(called(node), own | METHODS | BUILTINS | library, place)
+
+    def test_library(self):
+        names = set().union(*LIBRARY.values())
+        uses = {id(node.func) for _, node in self.nodes(ast.Call)}
+        for place, node in self.nodes(ast.Name):
+            if node.id in names:
+                self.assertIn(id(node), uses, place)
 
     def test_sets(self):
         for place, node in self.nodes(ast.Call):
@@ -198,9 +212,11 @@ class LanguageTest(unittest.TestCase):
         for _, node in self.nodes(ast.Call):
             if isinstance(node.func, ast.Name) and node.func.id in ITERATING:
                 at_once |= {id(part) for part in node.args}
+            if called(node) in ("min", "max") and len(node.args) == 1:
+                at_once.add(id(node.args[0]))
         for place, node in self.nodes(ast.Call):
             if called(node) in ITERATED:
-                self.assertIn(id(node), at_once, place)
+                self.assertTrue(id(node) in at_once, place)
 
     def test_loops_do_not_modify_what_they_iterate_over(self):
         for place, loop in self.nodes(ast.For):
@@ -234,4 +250,4 @@ class ProgramTest(unittest.TestCase):
         for path in FOLDER.glob("*.py"):
             for line in path.read_text("utf-8").splitlines():
                 if re.match(r"\s*(import|from)\b", line):
-                    self.assertRegex(line, r"^from cellguard\.[a-z]+ import [A-Za-z_, ]+$", path.name)
+                    self.assertRegex(line, r"^from (cellguard\.[a-z]+|heapq) import [A-Za-z_, ]+$", path.name)
