@@ -38,13 +38,16 @@ def extreme_census(publication, table, cell, way):
     return census_from_flows(publication, {**flows, table: flow}, {})
 
 
-def range_papers(publication, table, cell):
-    """Return the tuple of a paper for the least and one for the greatest count of a cell."""
-    flow = checked_flows(publication, table)[table]
-    network = network_of(publication, table)
-    arc = arc_of(publication.plan, table, cell)
+def papers_from(network, flow, arc):
+    """Return the tuple of a paper for the least and one for the greatest value of an arc, given some flow."""
     papers = []
     for way in (-1, 1):
         extreme, members = extreme_from(network, flow, arc, way)
         papers.append((way, extreme[arc], members))
     return tuple(papers)
+
+
+def range_papers(publication, table, cell):
+    """Return the tuple of a paper for the least and one for the greatest count of a cell."""
+    flow = checked_flows(publication, table)[table]
+    return papers_from(network_of(publication, table), flow, arc_of(publication.plan, table, cell))

@@ -122,6 +122,17 @@ class Shifts:
                 changes[number] = change
         return changes, None
 
+    def leading_out(self, members, numbers):
+        """Return those of some cells along which something could be moved out of a set of nodes."""
+        inside = {node: True for node in members}
+        leading = []
+        for number in numbers:
+            tail, head, least, most = self._arcs[number]
+            way = 1 if tail in inside else -1
+            if (tail in inside) != (head in inside) and self.room(number, way) > 0:
+                leading.append(number)
+        return leading
+
     def met_by(self, changes):
         """Return the list of the needs that changes of the counts meet."""
         met = []

@@ -31,6 +31,17 @@ FUNCTIONS = {
               "exposed_cells": "census table rule pattern", "is_safe": "census table rule pattern",
               "pattern_cost": "census table rule pattern sort"},
     "hiding": {"tight_pattern": "census table rule sort=cells", "tightened": "census table rule pattern"},
+    "leastcost": {"least_pattern": "census table rule sort=cells most=14"},
+    "costpapers": {"check_cost": "census table rule sort bound paper", "paper_size": "paper"},
+    "rounding": {"rounding_network": "census table base", "rounded_table": "census table base",
+                 "is_rounded": "census table base counts totals",
+                 "rounded_range": "plan table base counts totals cell",
+                 "rounded_papers": "plan table base counts totals cell",
+                 "check_rounded_paper": "plan table base counts totals cell paper"},
+    "pubtext": {"publication_text": "publication", "read_publication": "text plan", "report_lines": "publication"},
+    "groups": {"group_network": "publication table group", "group_range": "publication table group cell",
+               "group_census": "publication table group cell way", "group_papers": "publication table group cell",
+               "check_group_paper": "publication table group cell paper"},
 }
 
 CLASSES = {
@@ -46,6 +57,8 @@ CLASSES = {
     "census": {"Census": {"__init__": "plan records", "add": "record number", "number": "record", "records": "",
                           "people": ""}},
     "network": {"Network": {"__init__": "nodes arcs", "arcs": ""}},
+    "office": {"Office": {"__init__": "census rules", "release": "table pattern",
+                          "release_least": "table sort=cells most=14", "ask": "table cell", "known": "", "log": ""}},
     "publication": {"Publication": {"__init__": "plan totals tables", "totals": "", "tables": "", "cells": "table",
                                     "hidden": "table"}},
 }
