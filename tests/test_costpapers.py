@@ -2,7 +2,7 @@ import random
 import unittest
 
 import samples
-from cellguard.costpapers import check_cost
+from cellguard.costpapers import check_cost, paper_size
 from cellguard.counting import cells_of, counts_of, totals_of
 from cellguard.errors import UnknownName
 from cellguard.linking import arc_of, network_of
@@ -80,6 +80,13 @@ class CheckCostTest(unittest.TestCase):
         self.assertFalse(self.check(1, self.split_all(column, ("short", ("l0", 0), 1, []))))
         self.assertFalse(self.check(1, self.split_all(column[:1], ("short", ("l0", 0), 1, [2]))))
         self.assertFalse(self.check(1, self.split_all(column[1:], ("short", ("l0", 0), 1, [2]))))
+
+    def test_hidden_cells_are_no_shown_ones(self):
+        # With (l1, 0) hidden, the node 2 shows 8 and not 1.
+        short = ("short", ("l0", 0), 1, [2])
+        self.assertTrue(self.check(1, ("split", ("top", 0), COST, ("split", ("l1", 0), COST, short))))
+        self.assertFalse(self.check(1, ("split", ("top", 0), COST, ("split", ("l1", 0), short, short))))
+        self.assertFalse(self.check(1, ("split", ("top", 0), short, ("split", ("l1", 0), COST, short))))
 
     def test_short_at_the_very_end_of_the_wanted_range(self):
         # The root has 8 in the class 0, so with (l1, 0) hidden and (top, 0) shown (l0, 0) can go up to 8.
@@ -207,3 +214,20 @@ class CheckCostTest(unittest.TestCase):
         if way == 1:
             return shown < min(totals_of(census)[cell[0]], counts[cell] + rule[2])
         return shown > max(0, counts[cell] - rule[1])
+
+
+class PaperSizeTest(unittest.TestCase):
+    def test_by_hand(self):
+        end = ("cost",)
+        short = ("short", ("l0", 0), 1, [1])
+        self.assertEqual(paper_size(end), 1)
+        self.assertEqual(paper_size(short), 1)
+        self.assertEqual(paper_size(("split", ("l0", 1), end, short)), 3)
+        self.assertEqual(paper_size(("split", ("l0", 1), ("split", ("l0", 2), end, end), short)), 5)
+        self.assertEqual(paper_size(("split", ("l0", 1), end, ("split", ("l0", 2), short, ("split", ("l1", 0), end, end)))), 7)
+
+    def test_deep_papers(self):
+        paper = ("cost",)
+        for _ in range(5000):
+            paper = ("split", ("l0", 1), ("cost",), paper)
+        self.assertEqual(paper_size(paper), 10001)

@@ -80,6 +80,18 @@ class TightTest(unittest.TestCase):
                             tightened(census, "t", rule, pattern)
                     self.assertEqual(pattern, before)
 
+    def test_tables_of_some_size(self):
+        generator = random.Random(86)
+        plan = samples.Plan([("top", None), ("a", "top"), ("b", "top")] + [(f"a{k}", "a") for k in range(3)]
+                            + [(f"b{k}", "b") for k in range(4)], [("one", list("abcde"))],
+                            [("t", [("one", [[letter] for letter in "abcde"])])])
+        for _ in range(8):
+            census = samples.random_census(plan, generator, (0, 1, 2, 3, 6, 12, 30))
+            cells = cells_of(plan, "t")
+            for rule in ((3, 2, 2), (7, 5, 5), (4, 3, 20)):
+                self.assert_tight(census, rule, tight_pattern(census, "t", rule, sort="persons"), cells)
+                self.assert_tight(census, rule, tightened(census, "t", rule, cells), cells)
+
     def test_no_protected_cells(self):
         census = samples.random_census(samples.triple_plan(), random.Random(84), (0, 5))
         for rule in ((0, 9, 9), (1, 9, 9), (4, 1, 1)):

@@ -3,7 +3,7 @@ import unittest
 
 import samples
 from cellguard.census import census_text
-from cellguard.costpapers import check_cost, paper_size
+from cellguard.costpapers import check_cost
 from cellguard.counting import cells_of, counts_of, totals_of
 from cellguard.errors import TooLarge, UnknownName
 from cellguard.leastcost import least_pattern
@@ -151,20 +151,3 @@ class LeastPatternTest(unittest.TestCase):
         least_pattern(census, "jobs", (3, 1, 1))[0].clear()
         self.assertTrue(least_pattern(census, "jobs", (3, 1, 1))[0])
         self.assertEqual(census_text(census), text)
-
-
-class PaperSizeTest(unittest.TestCase):
-    def test_by_hand(self):
-        end = ("cost",)
-        short = ("short", ("l0", 0), 1, [1])
-        self.assertEqual(paper_size(end), 1)
-        self.assertEqual(paper_size(short), 1)
-        self.assertEqual(paper_size(("split", ("l0", 1), end, short)), 3)
-        self.assertEqual(paper_size(("split", ("l0", 1), ("split", ("l0", 2), end, end), short)), 5)
-        self.assertEqual(paper_size(("split", ("l0", 1), end, ("split", ("l0", 2), short, ("split", ("l1", 0), end, end)))), 7)
-
-    def test_deep_papers(self):
-        paper = ("cost",)
-        for _ in range(5000):
-            paper = ("split", ("l0", 1), ("cost",), paper)
-        self.assertEqual(paper_size(paper), 10001)

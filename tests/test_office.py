@@ -151,6 +151,14 @@ class OfficeTest(unittest.TestCase):
         self.assertEqual(office.known().hidden("people"),
                          least_pattern(census, "people", RULES["people"], sort="persons", most=20)[0])
 
+    def test_release_least_without_most_takes_fourteen_cells(self):
+        rows = {"l0": [1, 5, 5], "l1": [5, 5, 5], "l2": [5, 5, 5], "l3": [5, 5, 5]}
+        plan = samples.flat_plan(4, 3)
+        office = Office(samples.census_of_rows(plan, rows), {"t": (2, 1, 1)})
+        self.assertEqual(len(office.release_least("t").hidden("t")), 4)
+        with self.assertRaises(TooLarge):
+            Office(samples.census_of_rows(plan, {**rows, "l0": [5, 5, 5]}), {"t": (2, 1, 1)}).release_least("t")
+
     def test_release_least_of_unknown_tables(self):
         office = land_office()
         for table in ("age", "zoo"):

@@ -135,6 +135,9 @@ class RoundedTableTest(unittest.TestCase):
         self.assertIs(is_rounded(census, "t", 2, *fits(2, 4)), True)
         self.assertIs(is_rounded(census, "t", 2, *fits(0, 4)), False)
         self.assertIs(is_rounded(census, "t", 2, *fits(2, 6)), False)
+        # Here the total is right, and the counts are not.
+        self.assertIs(is_rounded(census, "t", 2, *fits(0, 6)), False)
+        self.assertIs(is_rounded(census, "t", 3, *fits(6, 0)), False)
         self.assertIs(is_rounded(census, "t", 3, *fits(3, 3)), True)
         self.assertIs(is_rounded(census, "t", 3, *fits(0, 6)), True)
         # Here the total is 9 and not 6.
