@@ -22,41 +22,62 @@ class Residual:
         self._heads.extend([head, tail])
         self._rooms.extend([forward, backward])
 
+    def with_rooms(self, rooms):
+        """Return another one with the same links, given the list of the rooms of all edges."""
+        other = Residual(0)
+        # Links are only added while something is built, so both can have the same lists of them.
+        other._edges = self._edges
+        other._heads = self._heads
+        other._rooms = list(rooms)
+        return other
+
+    def rooms(self):
+        """Return the list of the rooms of all edges."""
+        return list(self._rooms)
+
     def back_room(self, link):
         """Return how much can be moved backward along the link with a number."""
         return self._rooms[2 * link + 1]
 
-    def distances(self, source):
-        """Return the list of the distances of all nodes from a node, -1 for nodes out of reach."""
-        heads = self._heads
-        rooms = self._rooms
-        found = [-1] * len(self._edges)
-        found[source] = 0
-        queue = [source]
-        at = 0
-        while at < len(queue):
-            node = queue[at]
-            at += 1
-            for edge in self._edges[node]:
-                if rooms[edge] > 0 and found[heads[edge]] < 0:
-                    found[heads[edge]] = found[node] + 1
-                    queue.append(heads[edge])
-        return found
-
     def reached(self, source, nodes):
         """Return the ascending list of the nodes below a number that are in reach of a node."""
-        distances = self.distances(source)
-        return [node for node in range(nodes) if distances[node] >= 0]
+        found = [False] * len(self._edges)
+        found[source] = True
+        queue = [source]
+        while queue:
+            for edge in self._edges[queue.pop()]:
+                head = self._heads[edge]
+                if self._rooms[edge] > 0 and not found[head]:
+                    found[head] = True
+                    queue.append(head)
+        return [node for node in range(nodes) if found[node]]
 
     def move(self, source, sink, wanted):
         """Move as much as possible from node to node, at most what is wanted, and return how much."""
         moved = 0
         while moved < wanted:
-            distances = self.distances(source)
-            if distances[sink] < 0:
+            distances = self._distances(source, sink)
+            if distances[source] < 0:
                 return moved
             moved += self._move_shortest(distances, source, sink, wanted - moved)
         return moved
+
+    def _distances(self, source, sink):
+        # How far it is from the nodes to the sink, or -1. Nodes that are farther than the source do not matter.
+        heads = self._heads
+        rooms = self._rooms
+        found = [-1] * len(self._edges)
+        found[sink] = 0
+        queue = [sink]
+        at = 0
+        while at < len(queue) and found[source] < 0:
+            node = queue[at]
+            at += 1
+            for edge in self._edges[node]:
+                if rooms[edge ^ 1] > 0 and found[heads[edge]] < 0:
+                    found[heads[edge]] = found[node] + 1
+                    queue.append(heads[edge])
+        return found
 
     def _move_shortest(self, distances, source, sink, wanted):
         # Edges that led nowhere are not tried again, as long as the distances are the same.
@@ -83,9 +104,10 @@ class Residual:
 
     def _next_edge(self, distances, tried, node):
         edges = self._edges[node]
+        nearer = distances[node] - 1
         while tried[node] < len(edges):
             edge = edges[tried[node]]
-            if self._rooms[edge] > 0 and distances[self._heads[edge]] == distances[node] + 1:
+            if self._rooms[edge] > 0 and distances[self._heads[edge]] == nearer:
                 return edge
             tried[node] += 1
         return None

@@ -92,7 +92,9 @@ class Cover:
     def take_out(self, number):
         """Show a hidden cell, if all needs are met without it."""
         others = [other for other in self.hidden() if other != number]
-        for need in list(self._changes):
+        broken = [need for need in self._changes if number in self._changes[need]]
+        # Where much is moved along the cell, the others are soonest too little.
+        for _, need in sorted([(-abs(self._changes[need][number]), need) for need in broken]):
             if number in self._changes[need]:
                 changes, _ = self._shifts.found(need, others)
                 if changes is None:
@@ -105,13 +107,12 @@ class Cover:
             self._changes[need] = changes
 
 
-def tight_within(shifts, allowed, sort):
+def tight_along(shifts, allowed, costs):
     """Return the list of the cells of a tight pattern of allowed ones, or None if these are not safe.
 
     The allowed cells, and the cells that are returned, are lists of numbers; the protected cells are
-    among the allowed ones.
+    among the allowed ones. The costs of all cells tell which ones are hidden rather than others.
     """
-    costs = [cost_of(count, sort) for count in shifts.counts()]
     cover = Cover(shifts, allowed, costs)
     # What must move far is looked at first, for it often shows that others can move, too.
     for _, need in sorted([(-shifts.amount(need), need) for need in shifts.needs()]):
@@ -123,6 +124,22 @@ def tight_within(shifts, allowed, sort):
     for _, number in sorted([(-costs[number], -number) for number in further]):
         cover.take_out(-number)
     return cover.hidden()
+
+
+def tight_within(shifts, allowed, sort):
+    """Return the cheaper one of two tight patterns of allowed cells, or None, as tight_along does."""
+    protected = {number: True for number in shifts.protected()}
+    paid = [0 if number in protected else cost_of(count, sort) for number, count in enumerate(shifts.counts())]
+    cheapest = None
+    for guide in ("cells", "persons"):
+        # Costs by persons often lead to few cells, too, so both are tried for either sort.
+        found = tight_along(shifts, allowed, [cost_of(count, guide) for count in shifts.counts()])
+        if found is None:
+            return None
+        price = sum([paid[number] for number in found])
+        if cheapest is None or price < cheapest[0]:
+            cheapest = (price, found)
+    return cheapest[1]
 
 
 def tight_pattern(census, table, rule, *, sort="cells"):

@@ -47,9 +47,11 @@ class Shifts:
         self._arcs = network.arcs()[:len(counts)]
         self._nodes = network.nodes
         self._edges = [[] for _ in range(network.nodes)]
+        self._links = Residual(network.nodes)
         for number, (tail, head, least, most) in enumerate(self._arcs):
             self._edges[tail].append((number, head, 1))
             self._edges[head].append((number, tail, -1))
+            self._links.link(tail, head, 0, 0)
         self._needs = {}
         self._protected = [number for number, count in enumerate(self._counts) if is_protected(count, rule)]
         for number in self._protected:
@@ -106,20 +108,21 @@ class Shifts:
         This is a tuple of the dict from the cells to the changes of their counts, and None; or of None
         and the list of the nodes that show that the need is not met.
         """
-        residual = Residual(self._nodes)
+        rooms = [0] * (2 * len(self._counts))
         others = [number for number in hidden if number != need[0]]
         for number in others:
-            tail, head, least, most = self._arcs[number]
-            residual.link(tail, head, most - self._counts[number], self._counts[number])
+            rooms[2 * number] = self.room(number, 1)
+            rooms[2 * number + 1] = self._counts[number]
+        residual = self._links.with_rooms(rooms)
         source, sink = self.ends(need)
         amount = self._needs[need]
         if residual.move(source, sink, amount) < amount:
             return None, residual.reached(source, self._nodes)
-        changes = {need[0]: need[1] * amount}
-        for link, number in enumerate(others):
-            change = residual.back_room(link) - self._counts[number]
-            if change != 0:
-                changes[number] = change
+        # What can be moved down at last is the count, as it was changed.
+        counts = residual.rooms()[1::2]
+        changes = {number: counts[number] - self._counts[number] for number in others
+                   if counts[number] != self._counts[number]}
+        changes[need[0]] = need[1] * amount
         return changes, None
 
     def leading_out(self, members, numbers):
