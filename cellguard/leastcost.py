@@ -10,21 +10,27 @@ class State:
 
     `decided` is a dict from cells to True for hidden and False for shown ones. `met` has the needs that
     are met along hidden cells alone, and `changes` how needs are met along cells that are not shown.
+    `leading` is a list of cells one of which must be hidden, when it is known.
     """
 
     def __init__(self, decided, met, changes):
         self.decided = decided
         self.met = met
         self.changes = changes
+        self.leading = []
 
     def with_hidden(self, number):
         """Return the state in which a further cell is hidden."""
-        return State({**self.decided, number: True}, dict(self.met), dict(self.changes))
+        return self._with(number, True, list(self.changes))
 
     def with_shown(self, number):
         """Return the state in which a further cell is shown."""
-        changes = {need: self.changes[need] for need in self.changes if number not in self.changes[need]}
-        return State({**self.decided, number: False}, dict(self.met), changes)
+        return self._with(number, False, [need for need in self.changes if number not in self.changes[need]])
+
+    def _with(self, number, is_hidden, needs):
+        # The changes of these needs still hold.
+        met = {need: True for need in self.met}
+        return State({**self.decided, number: is_hidden}, met, {need: self.changes[need] for need in needs})
 
 
 class Search:
@@ -58,7 +64,8 @@ class Search:
             if end is not None:
                 papers.append(end)
                 continue
-            number = self._next_cell(state)
+            # Dear cells come first, because hiding them soon costs too much.
+            _, number = min([(-self._costs[leading], leading) for leading in state.leading])
             # The last task is the next one: both papers are there when it comes to the split itself.
             tasks.append((number, None))
             tasks.append((number, state.with_shown(number)))
@@ -74,14 +81,18 @@ class Search:
 
     def _end(self, state):
         # The paper for a state that need not be split, otherwise None.
-        if self._cost(self._hidden_in(state)) >= self._bound:
+        hidden = self._hidden_in(state)
+        if self._cost(hidden) >= self._bound:
             return ("cost",)
         short = self._short(state)
-        if short is None and not self._unmet(state):
-            self._best = self._hidden_in(state)
-            self._bound = self._cost(self._best)
+        if short is not None:
+            return short
+        state.leading = self._fewest_leading(state)
+        if not state.leading:
+            self._best = hidden
+            self._bound = self._cost(hidden)
             return ("cost",)
-        return short
+        return None
 
     def _short(self, state):
         not_shown = [number for number in self._all if state.decided.get(number, True)]
@@ -95,32 +106,25 @@ class Search:
                 state.changes[other] = changes
         return None
 
-    def _unmet(self, state):
-        # The lists of the nodes that show for a need each that it is not met along hidden cells alone.
+    def _fewest_leading(self, state):
+        # If a need is not met along hidden cells alone, one of the undecided cells that lead out of the
+        # set that shows this must be hidden. These cells are looked for where there are the fewest.
+        # There are none at all if all needs are met.
         hidden = self._hidden_in(state)
-        unmet = []
+        undecided = [number for number in self._all if self._costs[number] > 0 and number not in state.decided]
+        fewest = []
         for need in self._shifts.needs():
-            if need in state.met:
+            if need in state.met or len(fewest) == 1:
                 continue
             changes, members = self._shifts.found(need, hidden)
-            if changes is None:
-                unmet.append(members)
-            else:
+            if changes is not None:
                 for other in self._shifts.met_by(changes):
                     state.met[other] = True
-        return unmet
-
-    def _next_cell(self, state):
-        # One of the cells that lead out of a set must be hidden. It is looked for where there are the
-        # fewest, and dear ones come first, because hiding them soon costs too much.
-        undecided = [number for number in self._all if self._costs[number] > 0 and number not in state.decided]
-        fewest = undecided
-        for members in self._unmet(state):
+                continue
             leading = self._shifts.leading_out(members, undecided)
-            if len(leading) < len(fewest):
+            if not fewest or len(leading) < len(fewest):
                 fewest = leading
-        _, number = min([(-self._costs[number], number) for number in fewest])
-        return number
+        return fewest
 
 
 def least_pattern(census, table, rule, *, sort="cells", most=14):

@@ -132,7 +132,7 @@ class TightTest(unittest.TestCase):
                 least[sort] += self.least_cost(census, counts, rule, sort)
         for sort in SORTS:
             self.assertLessEqual(least[sort], found[sort])
-            self.assertLess(2 * found[sort], 3 * least[sort])
+            self.assertLess(20 * found[sort], 21 * least[sort])
 
     def least_cost(self, census, counts, rule, sort):
         protected = protected_cells(census, "t", rule)
