@@ -2,7 +2,6 @@
 
 from heapq import heappop, heappush
 
-from cellguard.counting import cells_of
 from cellguard.errors import InvalidPattern
 from cellguard.rules import Shifts, cost_of
 
@@ -145,7 +144,7 @@ def tight_within(shifts, allowed, sort):
 def tight_pattern(census, table, rule, *, sort="cells"):
     """Return a tight pattern that is meant to cost little."""
     shifts = Shifts(census, table, rule)
-    cells = cells_of(census.plan, table)
+    cells = shifts.cells()
     return [cells[number] for number in tight_within(shifts, list(range(len(cells))), sort)]
 
 
