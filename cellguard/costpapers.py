@@ -3,7 +3,7 @@
 from cellguard.counting import counts_of, totals_of
 from cellguard.linking import network_of
 from cellguard.network import Network
-from cellguard.papers import is_integer, is_node_list, is_way, shown_bound
+from cellguard.papers import is_cell, is_node_list, is_way, shown_bound
 from cellguard.publication import publish
 from cellguard.rules import cost_of, is_protected, wanted_from
 
@@ -50,10 +50,7 @@ class CostCase:
         return shown < high if way == 1 else shown > low
 
     def _number(self, cell):
-        # A cell may be equal to a tuple with True or False in it, which is no cell.
-        if not isinstance(cell, tuple) or len(cell) != 2 or not is_integer(cell[1]) or cell not in self._cells:
-            return None
-        return self._cells.index(cell)
+        return self._cells.index(cell) if is_cell(self._cells, cell) else None
 
     def _network_of(self, decided):
         arcs = self._network.arcs()

@@ -15,6 +15,14 @@ def is_way(value):
     return is_integer(value) and value in (1, -1)
 
 
+def is_cell(cells, value):
+    """Tell whether a value is one of some cells."""
+    # A cell is equal to a tuple with True or False in the place of its number, which is no cell.
+    if not isinstance(value, tuple) or len(value) != 2 or not is_integer(value[1]):
+        return False
+    return value in cells
+
+
 def is_node_list(network, members):
     """Tell whether a value is an ascending list of nodes of a network."""
     if not isinstance(members, list):

@@ -108,22 +108,47 @@ class Shifts:
         This is a tuple of the dict from the cells to the changes of their counts, and None; or of None
         and the list of the nodes that show that the need is not met.
         """
-        rooms = [0] * (2 * len(self._counts))
         others = [number for number in hidden if number != need[0]]
-        for number in others:
-            rooms[2 * number] = self.room(number, 1)
-            rooms[2 * number + 1] = self._counts[number]
-        residual = self._links.with_rooms(rooms)
+        residual = self._residual(others, None)
         source, sink = self.ends(need)
         amount = self._needs[need]
         if residual.move(source, sink, amount) < amount:
             return None, residual.reached(source, self._nodes)
-        # What can be moved down at last is the count, as it was changed.
+        return self._changed(need, amount, others, residual, None), None
+
+    def moved(self, need, hidden, kept):
+        """Return how far a need can be met if the cells of a list are hidden and one cell keeps a person.
+
+        This is a tuple of the amount, which is at most that of the need, and the dict from the cells to
+        the changes of their counts. The cell that keeps a person is given by its number, or is None.
+        """
+        others = [number for number in hidden if number != need[0]]
+        residual = self._residual(others, kept)
+        source, sink = self.ends(need)
+        wanted = self._needs[need]
+        if need == (kept, -1):
+            wanted = min(wanted, self._counts[kept] - 1)
+        amount = residual.move(source, sink, wanted)
+        return amount, self._changed(need, amount, others, residual, kept)
+
+    def _residual(self, others, kept):
+        rooms = [0] * (2 * len(self._counts))
+        for number in others:
+            rooms[2 * number] = self.room(number, 1)
+            rooms[2 * number + 1] = self._counts[number]
+        if kept in others:
+            rooms[2 * kept + 1] -= 1
+        return self._links.with_rooms(rooms)
+
+    def _changed(self, need, amount, others, residual, kept):
+        # What can be moved down at last is the count, as it was changed, but for the person who is kept.
         counts = residual.rooms()[1::2]
+        if kept is not None:
+            counts[kept] += 1
         changes = {number: counts[number] - self._counts[number] for number in others
                    if counts[number] != self._counts[number]}
         changes[need[0]] = need[1] * amount
-        return changes, None
+        return changes
 
     def leading_out(self, members, numbers):
         """Return those of some cells along which something could be moved out of a set of nodes."""

@@ -19,6 +19,7 @@ METHODS = set("append clear copy count endswith extend find get index insert isa
 MODIFYING = set("append clear extend insert pop remove reverse setdefault update sort".split())
 STATEMENTS = (ast.FunctionDef, ast.ClassDef, ast.ImportFrom, ast.Assign, ast.AugAssign, ast.If, ast.While, ast.For,
               ast.Return, ast.Break, ast.Continue, ast.Pass, ast.Raise, ast.Delete, ast.Try, ast.Expr)
+GENERATORS = {"all_counts"}
 EXPRESSIONS = (ast.Constant, ast.Name, ast.Attribute, ast.Subscript, ast.Slice, ast.Call, ast.BinOp, ast.BoolOp,
                ast.UnaryOp, ast.Compare, ast.IfExp, ast.List, ast.Tuple, ast.Dict, ast.ListComp, ast.DictComp,
                ast.JoinedStr, ast.FormattedValue, ast.Starred)
@@ -77,7 +78,10 @@ class LanguageTest(unittest.TestCase):
     def test_kinds_of_nodes(self):
         for place, node in self.nodes(ast.stmt):
             self.assertIsInstance(node, STATEMENTS, place)
+        yields = {id(node.value) for _, node in self.nodes(ast.Expr) if isinstance(node.value, ast.Yield)}
         for place, node in self.nodes(ast.expr):
+            if id(node) in yields:
+                continue
             # A set stands in len(set(..)) only, which test_sets looks at.
             self.assertIsInstance(node, EXPRESSIONS, place)
         for place, node in self.nodes(ast.Div, ast.MatMult, ast.Pow, ast.GeneratorExp, ast.Lambda, ast.Set, ast.SetComp):
@@ -96,7 +100,11 @@ class LanguageTest(unittest.TestCase):
                 elif isinstance(node, ast.ImportFrom):
                     bound += [alias.name for alias in node.names]
                 elif isinstance(node, ast.Assign):
-                    self.assertIsInstance(node.value, ast.Constant)
+                    values = [node.value]
+                    if isinstance(node.value, ast.Dict):
+                        values = node.value.keys + node.value.values
+                    for value in values:
+                        self.assertIsInstance(ast.literal_eval(value), (int, str))
                     bound.append(node.targets[0].id)
                 else:
                     self.assertIsInstance(node, (ast.FunctionDef, ast.ClassDef))
@@ -214,9 +222,27 @@ class LanguageTest(unittest.TestCase):
                 at_once |= {id(part) for part in node.args}
             if called(node) in ("min", "max") and len(node.args) == 1:
                 at_once.add(id(node.args[0]))
+            if called(node) == "reversed" and called(node.args[0]) == "range":
+                at_once.add(id(node.args[0]))
         for place, node in self.nodes(ast.Call):
             if called(node) in ITERATED:
                 self.assertTrue(id(node) in at_once, place)
+
+    def test_generators(self):
+        found = set()
+        for place, node in self.nodes(ast.FunctionDef):
+            if any(isinstance(inner, ast.Yield) for inner in ast.walk(node)):
+                found.add(node.name)
+                for inner in ast.walk(node):
+                    self.assertNotIsInstance(inner, (ast.Try, ast.Return), place)
+        self.assertEqual(found, GENERATORS)
+        self.assertEqual(len([node for _, node in self.nodes(ast.FunctionDef) if node.name in GENERATORS]), len(GENERATORS))
+        iterated = {id(node.iter) for _, node in self.nodes(ast.For)}
+        calls = {id(node.func): node for _, node in self.nodes(ast.Call)}
+        for place, node in self.nodes(ast.Name):
+            if node.id in GENERATORS:
+                self.assertIn(id(node), calls, place)
+                self.assertIn(id(calls[id(node)]), iterated, place)
 
     def test_loops_do_not_modify_what_they_iterate_over(self):
         for place, loop in self.nodes(ast.For):
