@@ -72,3 +72,8 @@ class Office:
     def log(self):
         """Return the lines that tell what was done."""
         return list(self._lines)
+
+    def restore(self, hidden, lines):
+        """Take the hidden cells of all tables that were released, safe patterns, and a log from elsewhere."""
+        self._hidden = {table: list(hidden[table]) for table in hidden}
+        self._lines = list(lines)

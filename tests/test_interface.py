@@ -5,7 +5,9 @@ import inspect
 import unittest
 
 import samples
+from cellguard.desk import Desk
 from cellguard.network import Network
+from cellguard.office import Office
 from cellguard.publication import publish
 
 FUNCTIONS = {
@@ -42,6 +44,24 @@ FUNCTIONS = {
     "groups": {"group_network": "publication table group", "group_range": "publication table group cell",
                "group_census": "publication table group cell way", "group_papers": "publication table group cell",
                "check_group_paper": "publication table group cell paper"},
+    "onefold": {"exposed_to_one": "census table rule pattern", "tight_to_one": "census table rule"},
+    "dossiers": {"dossier": "publication", "dossier_text": "entries", "read_dossier": "text plan",
+                 "check_dossier": "publication entries"},
+    "listing": {"all_counts": "publication table", "number_of_counts": "publication table most=10000"},
+    "coarser": {"derived_ranges": "publication table merging", "suits": "census attribute grouping threshold",
+                "finest_grouping": "census attribute threshold"},
+    "equations": {"equation_of": "publication table members", "linear_cells": "publication table",
+                  "equation_text": "publication table members"},
+    "saving": {"office_text": "office", "restored_office": "text census rules"},
+    "swapping": {"swapped": "census swaps", "disguised_cells": "census table rule swaps",
+                 "first_swap": "census table cell"},
+    "reasoning": {"first_limits": "publication table", "made_step": "network limits step",
+                  "useful_steps": "network limits", "reason": "publication table",
+                  "check_steps": "publication table steps limits"},
+    "bands": {"band_of": "count base", "banded_network": "census table pattern base",
+              "banded_range": "census table pattern base cell", "banded_census": "census table pattern base cell way",
+              "is_safe_banded": "census table rule pattern base", "least_base": "census table rule pattern bases",
+              "banded_text": "census table pattern base"},
 }
 
 CLASSES = {
@@ -61,6 +81,9 @@ CLASSES = {
                           "release_least": "table sort=cells most=14", "ask": "table cell", "known": "", "log": ""}},
     "publication": {"Publication": {"__init__": "plan totals tables", "totals": "", "tables": "", "cells": "table",
                                     "hidden": "table"}},
+    "service": {"Service": {"__init__": "census publication width=", "guarded": "", "is_harmless": "table cell",
+                            "ask": "table cell", "known": ""}},
+    "desk": {"Desk": {"__init__": "census rules most=14", "answer": "line", "run": "lines"}},
 }
 
 
@@ -102,3 +125,4 @@ class InterfaceTest(unittest.TestCase):
         self.assertEqual(census.plan.areas.root, "land")
         self.assertIs(publish(census, {}).plan, census.plan)
         self.assertEqual(Network(3, []).nodes, 3)
+        self.assertIsInstance(Desk(census, {"people": (1, 0, 0), "jobs": (1, 0, 0)}).office, Office)
