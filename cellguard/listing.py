@@ -25,7 +25,7 @@ class Listing:
         self._free = self._arcs_on_rings(network.nodes)
         self._lower_from(0)
 
-    def values(self):
+    def flow(self):
         """Return the values of the arcs."""
         return list(self._values)
 
@@ -109,7 +109,7 @@ def all_counts(publication, table):
     has_next = True
     while has_next:
         # The arcs of the cells are the first ones of a network, in the order of the cells.
-        yield {cell: value for cell, value in zip(cells, listing.values())}
+        yield {cell: value for cell, value in zip(cells, listing.flow())}
         has_next = listing.step()
 
 

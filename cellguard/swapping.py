@@ -6,25 +6,26 @@ from cellguard.errors import InvalidPattern, InvalidRecord
 from cellguard.rules import protected_cells
 
 
-def make_swap(tree, numbers, swap):
-    """Change a dict from records to their numbers as a swap says."""
-    first, second = swap
-    for record in (first, second):
+def check_swap(tree, numbers, swap):
+    """Raise InvalidRecord if a swap cannot be made, given the dict from the records to their numbers."""
+    for record in swap:
         if numbers.get(record, 0) == 0:
             raise InvalidRecord("a record of a swap does not occur")
-    if first[0] == second[0] or tree.parent(first[0]) != tree.parent(second[0]):
+    first_leaf, second_leaf = [leaf for leaf, _ in swap]
+    if first_leaf == second_leaf or tree.parent(first_leaf) != tree.parent(second_leaf):
         raise InvalidRecord("the leaves of a swap are equal or have different parents")
-    for record in (first, second):
-        numbers[record] -= 1
-    for record in ((second[0], first[1]), (first[0], second[1])):
-        numbers[record] = numbers.get(record, 0) + 1
 
 
 def swapped(census, swaps):
     """Return a new census in which the swaps of a list were made, one after the other."""
     numbers = {record: number for record, number in census.records()}
     for swap in swaps:
-        make_swap(census.plan.areas, numbers, swap)
+        check_swap(census.plan.areas, numbers, swap)
+        (first_leaf, first_values), (second_leaf, second_values) = swap
+        for record in swap:
+            numbers[record] -= 1
+        for record in ((second_leaf, first_values), (first_leaf, second_values)):
+            numbers[record] = numbers.get(record, 0) + 1
     return Census(census.plan, list(numbers.items()))
 
 

@@ -81,6 +81,14 @@ class CommandsTest(unittest.TestCase):
                 self.assertEqual(len(answers), 1)
             self.assertEqual(len(desk.office.log()), jobs + people)
 
+    def test_without_most_it_is_fourteen(self):
+        rows = {"l0": [1, 5, 5], "l1": [5, 5, 5], "l2": [5, 5, 5], "l3": [5, 5, 5]}
+        plan = samples.flat_plan(4, 3)
+        # Of the 15 cells one is protected, or none.
+        self.assertEqual(Desk(samples.census_of_rows(plan, rows), {"t": (2, 1, 1)}).answer("least t"), ["hidden 4"])
+        desk = Desk(samples.census_of_rows(plan, {**rows, "l0": [5, 5, 5]}), {"t": (2, 1, 1)})
+        self.assertEqual(desk.answer("least t"), ["too large"])
+
     def test_too_large_only_if_not_released(self):
         desk = land_desk(0)
         self.assertEqual(desk.run(["least jobs", "tight jobs", "least jobs"])[::2], ["too large", "refused"])

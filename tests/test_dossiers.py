@@ -188,6 +188,8 @@ class CheckDossierTest(unittest.TestCase):
     def test_papers_of_another_form(self):
         publication = publish(samples.land_census(), {"jobs": SQUARE})
         entries = dossier(publication)
+        for entry in ((), ("jobs", ("hill", 0)), ("jobs", ("hill", 0), (1, 99, None), 1), None, ["jobs", ("hill", 0), (1, 99, None)]):
+            self.assertIs(check_dossier(publication, entries + [entry]), False)
         for paper in (None, (1, 99), (1, 99, (1,)), (0, 99, None), (1, "99", None), (1, 99, [99]), (1, 99, [3, 3]), [1, 99, None]):
             self.assertIs(check_dossier(publication, entries + [("jobs", ("hill", 0), paper)]), False)
 

@@ -121,7 +121,7 @@ class StepsTest(unittest.TestCase):
         publication = publish(samples.land_census(), {"jobs": SQUARE})
         network = network_of(publication, "jobs")
         limits = first_limits(publication, "jobs")
-        for node, number, arc in ((0, 6, (1, 5)), (2, 6, (1, 5)), (6, 6, (1, 5)), (7, 6, (1, 5)), (8, 6, None), (-1, 6, None), (1, 13, None)):
+        for node, number, arc in ((0, 6, (1, 5)), (2, 6, (1, 5)), (6, 6, (1, 5)), (7, 6, (1, 5)), (8, 6, None), (-1, 6, None), (1, 13, None), (7, -1, None)):
             for way in (1, -1):
                 with self.assertRaises(InvalidFlow):
                     made_step(network, limits, (node, number, way))
@@ -247,6 +247,24 @@ class CheckStepsTest(unittest.TestCase):
                      ("1", 6, 1), (1, 6, "1"), (None, None, None), (1, 6, None), (1, 6, True), (True, 6, 1)):
             for at in (0, 1, len(self.steps)):
                 self.assertIs(self.check(self.steps[:at] + [step] + self.steps[at:]), False)
+
+    def test_steps_that_only_look_right(self):
+        # True is equal to 1, and a list has the parts of a tuple; but they are no steps.
+        replaced = 0
+        for at, (node, number, way) in enumerate(self.steps):
+            others = [[node, number, way]]
+            if node == 1:
+                others.append((True, number, way))
+            if way == 1:
+                others.append((node, number, True))
+            for other in others:
+                self.assertIs(self.check(self.steps[:at] + [other] + self.steps[at + 1:]), False)
+                replaced += 1
+        self.assertGreater(replaced, len(self.steps) + 1)
+        # The last arc is 12, and not -1.
+        publication = publish(samples.land_census(), {"jobs": [("dale", 0), ("dale", 1)]})
+        limits = first_limits(publication, "jobs")
+        self.assertIs(check_steps(publication, "jobs", [(2, -1, 1)], limits), False)
 
     def test_other_limits(self):
         for at, (least, greatest) in enumerate(self.limits):

@@ -149,7 +149,7 @@ class RestoredOfficeTest(unittest.TestCase):
                      "Hidden north 1", "hidden 1 north", "hidden north\t1"):
             self.assert_faulty(before + line + "\nlog\n", 3)
             self.assert_faulty(before + line + "\nhidden moon 7\n", 3)
-        for line in ("hidden north 0", "", "- x", "released zoo", "loge"):
+        for line in ("hidden north 0", "", "- x", "released zoo", "loge", "release jobs", "hidden jobs", "table jobs", "log jobs"):
             self.assert_faulty(line + "\nlog\n", 1)
         # A table that stands before an earlier one, and cells of another table.
         people = "released people\nhidden land 3\nreleased jobs\n"

@@ -190,6 +190,15 @@ class ServiceTest(unittest.TestCase):
             self.assertEqual(guarding.guarded(), [("t", cell) for cell in square_of(0, 1)])
             self.assertIs(guarding.is_harmless("t", ("l0", 0)), False)
 
+    def test_a_range_that_begins_high(self):
+        # (l1, 0) lies between 4001 and 5000: a thousand counts, although they are large.
+        census = leaves_census([[1, 998], [4999, 1], [3, 3]])
+        publication = publish(census, {"t": square_of(0, 1)})
+        self.assertEqual(cell_range(publication, "t", ("l1", 0)), (4001, 5000))
+        service = Service(census, publication, width=1000)
+        self.assertIs(service.is_harmless("t", ("l1", 0)), True)
+        self.assertEqual(service.ask("t", ("l1", 0)), 4999)
+
     def test_a_refused_question_with_a_thousand_counts(self):
         # Of the range of l1, which l0 and l2 make up for together, much is lost when l0 is told.
         census = leaves_census([[500, 499], [3000, 3000], [3000, 3000]])
